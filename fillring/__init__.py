@@ -1,0 +1,1 @@
+"""Copies of a set of places that fill a ring."""
