@@ -1,4 +1,4 @@
-"""Which sets of places fill a ring, each place reached just once."""
+"""Sets of places on a ring: which of them fill it, how they turn, and where they cancel out."""
 
 OUT_OF_RANGE = -2
 NOT_A_SET = -3
@@ -104,3 +104,61 @@ def cf_other(a):
     if len(row) == 0:
         return [NONE_FOUND]
     return [len(row)] + row
+
+
+def turned(numbers, d):
+    n = len(numbers)
+    return [numbers[(place - d) % n] for place in range(n)]
+
+
+def cf_turn(a):
+    refused = refusal([a], MOST_PLACES)
+    if refused != NOTHING_REFUSED:
+        return [refused]
+    d = 1
+    # Turned by n a set is itself, so this ends.
+    while turned(a, d) != a:
+        d += 1
+    return [d]
+
+
+# The different primes from the least on, each as a pair with how often it divides.
+def primes_and_times(number):
+    pairs = []
+    rest = number
+    prime = 2
+    while prime * prime <= rest:
+        times = 0
+        while rest % prime == 0:
+            rest = rest // prime
+            times += 1
+        if times > 0:
+            pairs.append((prime, times))
+        prime += 1
+    if rest > 1:
+        pairs.append((rest, 1))
+    return pairs
+
+
+def cancels_out(marked, d):
+    counts = [0] * d
+    for place in marked:
+        counts[place % d] += 1
+    for pair in primes_and_times(d):
+        step = d // pair[0]
+        counts = [counts[r] - counts[(r - step) % d] for r in range(d)]
+    return all([count == 0 for count in counts])
+
+
+def parts_that_cancel(numbers):
+    n = len(numbers)
+    marked = places_of(numbers)
+    return [d for d in range(2, n + 1) if n % d == 0 and cancels_out(marked, d)]
+
+
+def cf_marks(a):
+    refused = refusal([a], MOST_PLACES)
+    if refused != NOTHING_REFUSED:
+        return [refused]
+    parts = parts_that_cancel(a)
+    return [len(parts)] + parts

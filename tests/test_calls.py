@@ -2,26 +2,33 @@
 
 import unittest
 
-from fillring.rings import cf_fill, cf_other
+from fillring.rings import cf_fill, cf_marks, cf_other, cf_turn
 from helper import FixedList, all_sets, numbers_of
+
+# Each function that is handed one set, and its largest ring.
+ONE_SET = ((cf_other, 32), (cf_turn, 64), (cf_marks, 64))
 
 
 class Ranges(unittest.TestCase):
     def test_an_empty_list(self):
         self.assertEqual(cf_fill([], []), [-2])
-        self.assertEqual(cf_other([]), [-2])
+        for call, most in ONE_SET:
+            self.assertEqual(call([]), [-2], call)
 
     def test_a_ring_too_large(self):
         for n in (65, 66, 100):
             self.assertEqual(cf_fill([1] * n, [1] + [0] * (n - 1)), [-2])
-        for n in (33, 34, 64, 65):
-            self.assertEqual(cf_other([1] * n), [-2])
+        for call, most in ONE_SET:
+            self.assertNotEqual(call([1] * most), [-2], call)
+            for n in (most + 1, most + 2, 2 * most, 2 * most + 1):
+                self.assertEqual(call([1] * n), [-2], call)
 
     def test_a_number_out_of_its_range(self):
         for number in (-1, 256, 2 ** 31):
             self.assertEqual(cf_fill([1, number], [1, 0]), [-2])
             self.assertEqual(cf_fill([1, 0], [number, 1]), [-2])
-            self.assertEqual(cf_other([1, number]), [-2])
+            for call, most in ONE_SET:
+                self.assertEqual(call([1, number]), [-2], call)
 
     def test_sets_of_two_rings(self):
         self.assertEqual(cf_fill([1], []), [-2])
@@ -40,22 +47,28 @@ class Marks(unittest.TestCase):
                     self.assertEqual(cf_fill(wrong, [0] * n), [-3])
                     self.assertEqual(cf_fill([0] * n, wrong), [-3])
                     self.assertEqual(cf_fill(wrong, wrong), [-3])
-                    self.assertEqual(cf_other(wrong), [-3])
+                    for call, most in ONE_SET:
+                        self.assertEqual(call(wrong), [-3], call)
 
     def test_on_the_largest_ring(self):
         for number in (2, 255):
             wrong = [0] * 63 + [number]
             self.assertEqual(cf_fill(wrong, [1] * 64), [-3])
             self.assertEqual(cf_fill([1] * 64, wrong), [-3])
+            for call, most in ONE_SET:
+                self.assertEqual(call([0] * (most - 1) + [number]), [-3], call)
+                self.assertEqual(call([number] * most), [-3], call)
 
 
 class WhichRefusalFirst(unittest.TestCase):
     def test_range_before_marks(self):
         self.assertEqual(cf_fill([2] * 65, [2] * 65), [-2])
-        self.assertEqual(cf_other([2] * 33), [-2])
-        self.assertEqual(cf_other([2, 256]), [-2])
         self.assertEqual(cf_fill([2], [256]), [-2])
         self.assertEqual(cf_fill([256], [2]), [-2])
+        for call, most in ONE_SET:
+            self.assertEqual(call([2] * (most + 1)), [-2], call)
+            self.assertEqual(call([2, 256]), [-2], call)
+            self.assertEqual(call([2, -1]), [-2], call)
 
     def test_marks_before_none_found(self):
         self.assertEqual(cf_other([2]), [-3])
@@ -71,7 +84,8 @@ class Kinds(unittest.TestCase):
 
     def test_lists_of_whole_numbers(self):
         for a in all_sets(4) + [[], [2], [1], [0]]:
-            self.check(cf_other(a))
+            for call, most in ONE_SET:
+                self.check(call(a))
             for b in all_sets(4):
                 if len(b) == len(a):
                     self.check(cf_fill(a, b))
@@ -81,38 +95,38 @@ class Kinds(unittest.TestCase):
 
 class NothingChangedNothingKept(unittest.TestCase):
     def test_what_is_handed_in_stays(self):
-        for numbers in ([], [2, 1], [1, 1, 0, 0], [1, 0, 1, 0], [1, 1, 1, 0], [0, 0], [1] * 33, [1] * 65):
+        for numbers in ([], [2, 1], [1, 1, 0, 0], [1, 0, 1, 0], [1, 1, 1, 0], [0, 0], [1] * 33, [1] * 64, [1] * 65):
             a = FixedList(numbers)
             b = FixedList(numbers)
             cf_fill(a, b)
             cf_fill(a, a)
-            cf_other(a)
+            for call, most in ONE_SET:
+                call(a)
             self.assertEqual(list(a), numbers)
             self.assertEqual(list(b), numbers)
 
     def test_the_same_call_again(self):
         sets = all_sets(6)
-        before = [(cf_other(a), [cf_fill(a, b) for b in sets]) for a in sets]
-        after = [(cf_other(a), [cf_fill(a, b) for b in sets]) for a in reversed(sets)]
+        before = [[cf_fill(a, b) for b in sets] for a in sets]
+        after = [[cf_fill(a, b) for b in sets] for a in reversed(sets)]
+        self.assertEqual(before, after[::-1])
+        before = [[call(a) for call, most in ONE_SET] for a in sets]
+        after = [[call(a) for call, most in ONE_SET] for a in reversed(sets)]
         self.assertEqual(before, after[::-1])
 
+    def check_answer_belongs_to_caller(self, call, *handed_in):
+        answer = call(*handed_in)
+        kept = list(answer)
+        answer.append(77)
+        answer[0] = 88
+        self.assertEqual(call(*handed_in), kept, call)
+
     def test_an_answer_belongs_to_the_caller(self):
-        calls = (
-            lambda: cf_fill([1], [1]),
-            lambda: cf_fill([1], [0]),
-            lambda: cf_fill([], []),
-            lambda: cf_fill([2], [1]),
-            lambda: cf_other(numbers_of(6, [0, 1])),
-            lambda: cf_other([0]),
-            lambda: cf_other([]),
-            lambda: cf_other([2]),
-        )
-        for call in calls:
-            answer = call()
-            kept = list(answer)
-            answer.append(77)
-            answer[0] = 88
-            self.assertEqual(call(), kept)
+        for a, b in (([1], [1]), ([1], [0]), ([], []), ([2], [1])):
+            self.check_answer_belongs_to_caller(cf_fill, a, b)
+        for a in (numbers_of(6, [0, 1]), numbers_of(6, [0, 1, 3]), [0], [1], [], [2]):
+            for call, most in ONE_SET:
+                self.check_answer_belongs_to_caller(call, a)
 
 
 if __name__ == "__main__":

@@ -5,7 +5,7 @@ import random
 import unittest
 
 from fillring.rings import cf_other
-from helper import all_sets, fill, numbers_of, places_in
+from helper import all_sets, fill, grown_pair, numbers_of, places_in
 
 
 def first_of_all_sets(n, first):
@@ -145,18 +145,6 @@ class AgainstASearch(unittest.TestCase):
             for turn in range(20):
                 first = source.sample(range(n), size)
                 self.assertEqual(cf_other(numbers_of(n, first)), first_of_right_size(n, first), (n, first))
-
-
-def grown_pair(n, source):
-    """A pair that fills: the ring's steps dealt out, prime by prime, to one of two sets."""
-    pair = [[0], [0]]
-    step = 1
-    while step < n:
-        prime = next(p for p in range(2, n + 1) if n // step % p == 0)
-        which = source.randrange(2)
-        pair[which] = [(i + k * step) % n for i in pair[which] for k in range(prime)]
-        step *= prime
-    return pair
 
 
 class PairsThatFill(unittest.TestCase):
