@@ -8,6 +8,9 @@ NOTHING_REFUSED = 0
 MOST_PLACES = 64
 MOST_PLACES_OF_OTHER = 32
 GREATEST_NUMBER = 255
+GREATEST_LINE = 131071
+
+CLASH = -1
 
 
 def in_range(numbers, most):
@@ -162,3 +165,89 @@ def cf_marks(a):
         return [refused]
     parts = parts_that_cancel(a)
     return [len(parts)] + parts
+
+
+def has_primes_product(size, powers):
+    product = 1
+    for power in powers:
+        product = product * primes_and_times(power)[0][0]
+    return size == product
+
+
+# Products of powers whose primes are all different; each power by itself is
+# among them and cancels out anyway, so it need not be kept apart.
+def products_of_powers(powers):
+    products = [1]
+    for power in powers:
+        prime = primes_and_times(power)[0][0]
+        products = products + [product * power for product in products if product % prime != 0]
+    return products[1:]
+
+
+def cf_tests(a):
+    refused = refusal([a], MOST_PLACES)
+    if refused != NOTHING_REFUSED:
+        return [refused]
+    size = len(places_of(a))
+    if size == 0:
+        return [NOT_A_SET]
+    parts = parts_that_cancel(a)
+    powers = [d for d in parts if len(primes_and_times(d)) == 1]
+    answer = 0
+    if has_primes_product(size, powers):
+        answer += 1
+    if all([product in parts for product in products_of_powers(powers)]):
+        answer += 2
+    return [answer]
+
+
+# On the line, gone along from left to right, the first place not yet reached
+# can only be reached by the least number of the next copy. So what lies ahead
+# of a place, bit k for the k-th place from there on, settles all that follows.
+def ahead_of_next(ahead, copy_bits):
+    if (ahead & 1) == 1:
+        return ahead >> 1
+    if (ahead & copy_bits) != 0:
+        return CLASH
+    return (ahead | copy_bits) >> 1
+
+
+# No two differ in what lies ahead and yet agree one place on, so a way that
+# ever comes round comes round to where it began.
+def steps_around(start, copy_bits, seen):
+    ahead = start
+    steps = 0
+    while ahead != CLASH and ahead not in seen:
+        seen[ahead] = True
+        ahead = ahead_of_next(ahead, copy_bits)
+        steps += 1
+    if ahead == start and steps > 0:
+        return steps
+    return 0
+
+
+def parts_of(bits):
+    parts = [0]
+    for k in range(bits.bit_length()):
+        if ((bits >> k) & 1) == 1:
+            parts = parts + [part | (1 << k) for part in parts]
+    return parts
+
+
+# A ring of n places that is filled is the line filled, the same again after
+# every n places. Each filling lays a copy somewhere, so it is enough to begin
+# where a copy fits: with each part of what the copy leaves free.
+def least_way_around(copy_bits):
+    free = ((1 << copy_bits.bit_length()) - 1) ^ copy_bits
+    seen = {}
+    ways = [steps_around(start, copy_bits, seen) for start in parts_of(free)]
+    return min([steps for steps in ways if steps > 0], default=0)
+
+
+def cf_line(a):
+    if a < 1 or a > GREATEST_LINE or a % 2 == 0:
+        return [OUT_OF_RANGE]
+    least = least_way_around(a)
+    if least == 0:
+        return [NONE_FOUND]
+    return [least]

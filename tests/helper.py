@@ -45,6 +45,13 @@ def primes_of(d):
     return [p for p in range(2, d + 1) if d % p == 0 and all(p % q for q in range(2, p))]
 
 
+def product_of(numbers):
+    product = 1
+    for number in numbers:
+        product *= number
+    return product
+
+
 def cancels(places, d):
     """The definition: counts by rest, then one difference after another, prime by prime."""
     c = [len([1 for i in places if i % d == r]) for r in range(d)]

@@ -2,11 +2,11 @@
 
 import unittest
 
-from fillring.rings import cf_fill, cf_marks, cf_other, cf_turn
+from fillring.rings import cf_fill, cf_line, cf_marks, cf_other, cf_tests, cf_turn
 from helper import FixedList, all_sets, numbers_of
 
 # Each function that is handed one set, and its largest ring.
-ONE_SET = ((cf_other, 32), (cf_turn, 64), (cf_marks, 64))
+ONE_SET = ((cf_other, 32), (cf_turn, 64), (cf_marks, 64), (cf_tests, 64))
 
 
 class Ranges(unittest.TestCase):
@@ -75,6 +75,11 @@ class WhichRefusalFirst(unittest.TestCase):
         self.assertEqual(cf_other([0, 0, 255]), [-3])
         self.assertEqual(cf_other([1, 1, 0, 0, 2]), [-3])
 
+    def test_range_before_an_empty_set(self):
+        self.assertEqual(cf_tests([]), [-2])
+        self.assertEqual(cf_tests([0] * 65), [-2])
+        self.assertEqual(cf_tests([0] * 64), [-3])
+
 
 class Kinds(unittest.TestCase):
     def check(self, answer):
@@ -91,6 +96,8 @@ class Kinds(unittest.TestCase):
                     self.check(cf_fill(a, b))
         self.check(cf_fill([], []))
         self.check(cf_fill([2], [1]))
+        for a in range(-1, 20):
+            self.check(cf_line(a))
 
 
 class NothingChangedNothingKept(unittest.TestCase):
@@ -127,6 +134,8 @@ class NothingChangedNothingKept(unittest.TestCase):
         for a in (numbers_of(6, [0, 1]), numbers_of(6, [0, 1, 3]), [0], [1], [], [2]):
             for call, most in ONE_SET:
                 self.check_answer_belongs_to_caller(call, a)
+        for a in (-1, 1, 11, 2 ** 17 - 1):
+            self.check_answer_belongs_to_caller(cf_line, a)
 
 
 if __name__ == "__main__":
