@@ -9,8 +9,13 @@ MOST_PLACES = 64
 MOST_PLACES_OF_OTHER = 32
 GREATEST_NUMBER = 255
 GREATEST_LINE = 131071
+GREATEST_RING = 1000000
 
 CLASH = -1
+
+# How often each prime divides: p^k q, p^2 q^2, p^2 q r, p q r s. No prime
+# divides a number up to GREATEST_RING more than 19 times.
+GOOD_SHAPES = ((19, 1), (2, 2), (2, 1, 1), (1, 1, 1, 1))
 
 
 def in_range(numbers, most):
@@ -212,8 +217,8 @@ def ahead_of_next(ahead, copy_bits):
     return (ahead | copy_bits) >> 1
 
 
-# No two differ in what lies ahead and yet agree one place on, so a way that
-# ever comes round comes round to where it began.
+# Each step can be taken back, for the last bit ahead tells whether a copy was
+# laid. So a way that ever comes round comes round to where it began.
 def steps_around(start, copy_bits, seen):
     ahead = start
     steps = 0
@@ -251,3 +256,20 @@ def cf_line(a):
     if least == 0:
         return [NONE_FOUND]
     return [least]
+
+
+def divides_shape(times, shape):
+    if len(times) > len(shape):
+        return False
+    return all([times[k] <= shape[k] for k in range(len(times))])
+
+
+# The answer of Hajos, de Bruijn, Redei and Sands: a ring is good just where n
+# divides a number of one of these shapes, primes p, q, r, s all different.
+def cf_good(n):
+    if n < 2 or n > GREATEST_RING:
+        return [OUT_OF_RANGE]
+    times = sorted([pair[1] for pair in primes_and_times(n)], reverse=True)
+    if any([divides_shape(times, shape) for shape in GOOD_SHAPES]):
+        return [1]
+    return [0]

@@ -2,7 +2,7 @@
 
 import unittest
 
-from fillring.rings import cf_fill, cf_line, cf_marks, cf_other, cf_tests, cf_turn
+from fillring.rings import cf_fill, cf_good, cf_line, cf_marks, cf_other, cf_tests, cf_turn
 from helper import FixedList, all_sets, numbers_of
 
 # Each function that is handed one set, and its largest ring.
@@ -98,6 +98,8 @@ class Kinds(unittest.TestCase):
         self.check(cf_fill([2], [1]))
         for a in range(-1, 20):
             self.check(cf_line(a))
+            self.check(cf_good(a))
+        self.check(cf_good(72))
 
 
 class NothingChangedNothingKept(unittest.TestCase):
@@ -120,6 +122,10 @@ class NothingChangedNothingKept(unittest.TestCase):
         before = [[call(a) for call, most in ONE_SET] for a in sets]
         after = [[call(a) for call, most in ONE_SET] for a in reversed(sets)]
         self.assertEqual(before, after[::-1])
+        numbers = list(range(-3, 300))
+        before = [(cf_line(number), cf_good(number)) for number in numbers]
+        after = [(cf_line(number), cf_good(number)) for number in reversed(numbers)]
+        self.assertEqual(before, after[::-1])
 
     def check_answer_belongs_to_caller(self, call, *handed_in):
         answer = call(*handed_in)
@@ -136,6 +142,8 @@ class NothingChangedNothingKept(unittest.TestCase):
                 self.check_answer_belongs_to_caller(call, a)
         for a in (-1, 1, 11, 2 ** 17 - 1):
             self.check_answer_belongs_to_caller(cf_line, a)
+        for n in (-1, 1, 2, 72, 1000000):
+            self.check_answer_belongs_to_caller(cf_good, n)
 
 
 if __name__ == "__main__":

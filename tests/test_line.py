@@ -172,13 +172,5 @@ class AgainstBothTests(unittest.TestCase):
         self.assertTrue({-5, 4, 8, 9, 12, 16, 18} <= found, found)
 
 
-class SameAgain(unittest.TestCase):
-    def test_in_any_order(self):
-        tried = list(range(-3, 300)) + [2 ** 16 + 1, 2 ** 17 - 1, 2 ** 17]
-        before = [cf_line(a) for a in tried]
-        after = [cf_line(a) for a in reversed(tried)]
-        self.assertEqual(before, after[::-1])
-
-
 if __name__ == "__main__":
     unittest.main()
