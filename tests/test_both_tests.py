@@ -162,7 +162,7 @@ class AgainstTheWords(unittest.TestCase):
                 seen.add(cf_tests(a)[0])
         self.assertIn(0, seen)
 
-    def test_a_set_that_fills_passes_the_first(self):
+    def test_on_small_rings_a_set_that_fills_passes_both(self):
         for n in (8, 9, 10, 12):
             for size in [1] + divisors(n):
                 for rest in itertools.combinations(range(1, n), size - 1):
